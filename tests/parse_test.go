@@ -482,40 +482,12 @@ func wantSaid(t *testing.T, text string, said map[string][]string) {
 	}
 }
 
-// Every list of the answer is written full, its spare room included: a list that shares memory with another one shows the other's mark.
 func TestParseAnswersAreNew(t *testing.T) {
 	text := "berth b\nmark c\nmark b\nmark a\nend\nservice s\nlike x 1\nlike y 2\nfollow 1 2 3\nneeds 4 5\nwant 1\nend\nteam t\nend\nberth a\nend\n"
 	before, _ := impl.SheetParse(text)
 	told := tell(before)
 	s, _ := impl.SheetParse(text)
-	var words [][]string
-	var lines [][]impl.SheetLine
-	for _, b := range s.Blocks {
-		lines = append(lines, b.Lines[:cap(b.Lines)])
-		for _, l := range b.Lines {
-			words = append(words, l.Words[:cap(l.Words)])
-		}
-	}
-	for i, list := range words {
-		for j := range list {
-			list[j] = fmt.Sprint(i)
-		}
-	}
-	for i, list := range words {
-		if slices.ContainsFunc(list, func(word string) bool { return word != fmt.Sprint(i) }) {
-			t.Errorf("the words of line %d share memory: %q", i, list)
-		}
-	}
-	for i, list := range lines {
-		for j := range list {
-			list[j] = line(fmt.Sprint(i))
-		}
-	}
-	for i, list := range lines {
-		if slices.ContainsFunc(list, func(l impl.SheetLine) bool { return l.Key != fmt.Sprint(i) }) {
-			t.Errorf("the lines of block %d share memory: %q", i, list)
-		}
-	}
+	wantOwnLists(t, s)
 	if after, _ := impl.SheetParse(text); tell(after) != told || tell(before) != told {
 		t.Errorf("writing into an answer changed another one")
 	}
